@@ -28,7 +28,7 @@ var kinds = []struct {
 // noKinds: numbers that no kind has.
 var noKinds = []int{0, 10, -1, 11, 12, 255, 256, 257, 1 << 16, 1<<32 + 1, 1<<32 + 7, -7, -9, math.MinInt32, math.MinInt, math.MinInt + 1, math.MaxInt}
 
-// far: numbers that no number of an act may be.
+// far: numbers that no number of an act may be, whether its word has it or not.
 var far = []int{-1, -2, -4, -1048576, math.MinInt32, -1 << 32, math.MinInt, math.MinInt + 1, 1 << 21, 1 << 31, 1<<32 - 1, 1 << 32, 1<<32 + 1, math.MaxInt - 1, math.MaxInt}
 
 // wrongAct: an act that may not be, and what it is refused with.
@@ -43,6 +43,14 @@ func wantCheck(t *testing.T, a api.Act, want api.Errno) {
 	if e := lines.Check(a); e != want {
 		t.Errorf("%s: %d, want %d", briefActs([]api.Act{a}), int(e), int(want))
 	}
+}
+
+// wantOutside: what a number out of its bound is refused with, where a word has it, and where it does not.
+func wantOutside(has bool) api.Errno {
+	if has {
+		return api.ErrRange
+	}
+	return api.ErrForm
 }
 
 // withNumber: an act of a kind with one number.
@@ -62,7 +70,7 @@ func wrongActs() []wrongAct {
 		for field, has := range []bool{k.node, k.at, k.keep} {
 			most := []int{4, 1048576, 100000}[field]
 			for _, n := range append([]int{most + 1, most + 2}, far...) {
-				l = append(l, wrongAct{withNumber(k.kind, field, n), api.ErrRange})
+				l = append(l, wrongAct{withNumber(k.kind, field, n), wantOutside(has)})
 			}
 			if !has {
 				l = append(l, wrongAct{withNumber(k.kind, field, 1), api.ErrForm}, wrongAct{withNumber(k.kind, field, most), api.ErrForm})
@@ -83,10 +91,10 @@ func TestCheckOfNumbers(t *testing.T) {
 			most := []int{4, 1048576, 100000}[field]
 			for _, n := range []int{-1, 0, 1, 2, 3, 4, 5, 9, 10, most - 1, most, most + 1} {
 				want := api.OK
-				if n < 0 || n > most {
-					want = api.ErrRange
-				} else if n != 0 && !has {
+				if n != 0 && !has {
 					want = api.ErrForm
+				} else if n < 0 || n > most {
+					want = api.ErrRange
 				}
 				wantCheck(t, withNumber(k.kind, field, n), want)
 			}
@@ -131,41 +139,63 @@ func TestCheckRefuses(t *testing.T) {
 	}
 }
 
-// faults of an act, in the order in which they are named; each wrongs another part of it, so that any of them may stand together.
-var faults = []struct {
-	want  api.Errno
-	wrong func(a *api.Act)
-}{
-	{api.ErrKind, func(a *api.Act) { a.Kind = 10 }},
-	{api.ErrKind, func(a *api.Act) { a.Kind = 0 }},
-	{api.ErrRange, func(a *api.Act) { a.Node = -1 }},
-	{api.ErrRange, func(a *api.Act) { a.Node = 5 }},
-	{api.ErrRange, func(a *api.Act) { a.At = -1 }},
-	{api.ErrRange, func(a *api.Act) { a.At = 1048577 }},
-	{api.ErrRange, func(a *api.Act) { a.Keep = -1 }},
-	{api.ErrRange, func(a *api.Act) { a.Keep = 100001 }},
-	{api.ErrSize, func(a *api.Act) { a.Data = make([]byte, 2001) }},
+// faults of an act, each of one part of it, so that those of several parts may stand together. Whether a number is one hangs on the word.
+var faults = []func(a *api.Act){
+	func(a *api.Act) { a.Kind = 10 },
+	func(a *api.Act) { a.Kind = 0 },
+	func(a *api.Act) { a.Node = -1 },
+	func(a *api.Act) { a.Node = 5 },
+	func(a *api.Act) { a.Node = 1 },
+	func(a *api.Act) { a.At = -1 },
+	func(a *api.Act) { a.At = 1048577 },
+	func(a *api.Act) { a.At = 1 },
+	func(a *api.Act) { a.Keep = -1 },
+	func(a *api.Act) { a.Keep = 100001 },
+	func(a *api.Act) { a.Keep = 1 },
+	func(a *api.Act) { a.Data = make([]byte, 2001) },
+	func(a *api.Act) { a.Data = []byte{1} },
 }
 
-// TestTwoFaults: P11.1: where two are wrong at once, the answer is the one named first: the kind, a number beyond its bounds, too many bytes, what the word does not have.
+// TestTwoFaults: P11.1: where two or three are wrong at once, the answer is the one named first: the kind, a number that the word has beyond its bounds, too many bytes, what the word does not have.
 func TestTwoFaults(t *testing.T) {
 	for _, k := range kinds {
-		for i, first := range faults {
-			for _, second := range faults[i+1:] {
-				a := api.Act{Kind: k.kind}
-				second.wrong(&a)
-				first.wrong(&a)
-				wantCheck(t, a, first.want)
-			}
-			// what the word does not have is named last
-			for _, form := range []api.Act{{Node: 1, At: 1, Keep: 1}, {Node: 4, At: 1048576, Keep: 100000}, {Node: 1, At: 1, Keep: 1, Data: []byte{1}}} {
-				a := form
-				a.Kind = k.kind
-				wantCheck(t, a, api.ErrForm)
-				first.wrong(&a)
-				wantCheck(t, a, first.want)
+		for _, first := range faults {
+			for _, second := range faults {
+				for _, third := range faults {
+					a := api.Act{Kind: k.kind}
+					third(&a)
+					second(&a)
+					first(&a)
+					wantCheck(t, a, mayBe(a))
+				}
 			}
 		}
+	}
+}
+
+// twice: acts that are wrong in more than one way, with a number that their word does not have out of bounds, told by hand.
+var twice = []wrongAct{
+	{api.Act{Kind: 0, Node: -1}, api.ErrKind},
+	{api.Act{Kind: 10, Keep: 100001, Data: make([]byte, 2001)}, api.ErrKind},
+	{api.Act{Kind: api.Carry, Node: -1, At: -1}, api.ErrRange},
+	{api.Act{Kind: api.Lose, At: 1048577, Keep: 1}, api.ErrRange},
+	{api.Act{Kind: api.Crash, At: -1, Keep: 100001}, api.ErrRange},
+	{api.Act{Kind: api.Crash, Node: 5, At: 1048577}, api.ErrRange},
+	{api.Act{Kind: api.Step, Node: -1, Keep: -1, Data: make([]byte, 2001)}, api.ErrRange},
+	{api.Act{Kind: api.All, Node: 5, Data: make([]byte, 2001)}, api.ErrSize},
+	{api.Act{Kind: api.Submit, Keep: -1, Data: make([]byte, 2001)}, api.ErrSize},
+	{api.Act{Kind: api.Double, Node: math.MinInt, Data: make([]byte, 2001)}, api.ErrSize},
+	{api.Act{Kind: api.All, Node: 5, At: -1, Keep: -1}, api.ErrForm},
+	{api.Act{Kind: api.Start, Node: 4, At: math.MinInt, Keep: math.MaxInt}, api.ErrForm},
+	{api.Act{Kind: api.Submit, At: 1048577, Data: []byte{1}}, api.ErrForm},
+	{api.Act{Kind: api.Lead, Keep: 100001, Data: []byte{1}}, api.ErrForm},
+}
+
+// TestNumberWithoutAWord: P11.1, P11.3: a number that the word does not have has no bound; where it is not 0, it is named last. Show says the same.
+func TestNumberWithoutAWord(t *testing.T) {
+	for _, x := range twice {
+		wantCheck(t, x.act, x.want)
+		wantNoShow(t, briefActs([]api.Act{x.act}), []api.Act{all(), x.act}, 1, x.want)
 	}
 }
 
@@ -182,25 +212,29 @@ func TestEveryKind(t *testing.T) {
 
 // mayBe: may an act be? Worked out apart from the program, by its kind.
 func mayBe(a api.Act) api.Errno {
-	if a.Kind < 1 || a.Kind > 9 {
+	outside, bare := false, a
+	switch a.Kind {
+	case api.Submit, api.Lead, api.Step, api.Start:
+		outside = a.Node < 0 || a.Node > 4
+		bare.Node = 0
+	case api.Carry, api.Lose, api.Double:
+		outside = a.At < 0 || a.At > 1048576
+		bare.At = 0
+	case api.All:
+	case api.Crash:
+		outside = a.Node < 0 || a.Node > 4 || a.Keep < 0 || a.Keep > 100000
+		bare.Node, bare.Keep = 0, 0
+	default:
 		return api.ErrKind
 	}
-	if a.Node < 0 || a.Node > 4 || a.At < 0 || a.At > 1048576 || a.Keep < 0 || a.Keep > 100000 {
+	if outside {
 		return api.ErrRange
 	}
 	if len(a.Data) > 2000 {
 		return api.ErrSize
 	}
-	bare := a
-	switch a.Kind {
-	case api.Submit:
-		bare.Node, bare.Data = 0, nil
-	case api.Carry, api.Lose, api.Double:
-		bare.At = 0
-	case api.Crash:
-		bare.Node, bare.Keep = 0, 0
-	case api.Lead, api.Step, api.Start:
-		bare.Node = 0
+	if a.Kind == api.Submit {
+		bare.Data = nil
 	}
 	if !same(bare, api.Act{Kind: a.Kind}) {
 		return api.ErrForm
@@ -232,6 +266,9 @@ func TestDrawnActs(t *testing.T) {
 	}
 	for kind := 1; kind <= 9; kind++ {
 		for _, e := range []api.Errno{api.OK, api.ErrRange, api.ErrSize, api.ErrForm} {
+			if kind == api.All && e == api.ErrRange {
+				continue // its word has no numbers
+			}
 			if met[fmt.Sprint(kind, int(e))] == 0 {
 				t.Errorf("no act of kind %d with %d was drawn", kind, int(e))
 			}

@@ -32,6 +32,7 @@ func TestShowRefusesTheFirst(t *testing.T) {
 		{crash(0, 100001), api.ErrRange},
 		{submit(0, pattern(2001, 5)...), api.ErrSize},
 		{api.Act{Kind: api.All, At: 1}, api.ErrForm},
+		{api.Act{Kind: api.Submit, Keep: -1}, api.ErrForm},
 		{api.Act{Kind: api.Lead, Data: []byte{1}}, api.ErrForm},
 	}
 	for _, x := range some {

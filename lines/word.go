@@ -57,10 +57,10 @@ func numbersOf(a *api.Act) [numberCount]*int {
 	return [numberCount]*int{nodeNumber: &a.Node, atNumber: &a.At, keepNumber: &a.Keep}
 }
 
-// inBounds: are all numbers of an act within their bounds, those that its word does not have, too?
+// inBounds: are the numbers that the word of an act has, of a kind that is there, within their bounds? One that the word does not have is none of the act's, so that fitsWord alone asks for it.
 func inBounds(a api.Act) bool {
 	for i, number := range numbersOf(&a) {
-		if *number < 0 || *number > bounds[i] {
+		if words[a.Kind].has[i] && (*number < 0 || *number > bounds[i]) {
 			return false
 		}
 	}
